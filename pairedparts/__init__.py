@@ -1,0 +1,1 @@
+"""Pairedparts: partitions of a number paired one to one."""
