@@ -28,11 +28,30 @@ NOT_INTEGERS = [
 
 def wrong_numbers(least, most):
     """Return values that are not integers from least to most."""
-    return [least - 1, most + 1, -5, -(10 ** 5000), 10 ** 5000] + NOT_INTEGERS
+    return [least - 1, most + 1, -1, -5, -(10 ** 5000), 10 ** 5000] + NOT_INTEGERS
 
 
 def descending(parts):
     return tuple(sorted(parts, reverse=True))
+
+
+def cells(partition):
+    """Return the places of a picture of partition: a row of places for each part."""
+    return [(row, column) for row, part in enumerate(partition) for column in range(part)]
+
+
+def turned(partition):
+    """Return the mirrored partition: the columns of the picture."""
+    columns = [column for _, column in cells(partition)]
+    return tuple(columns.count(column) for column in sorted(set(columns)))
+
+
+def text_of(partition):
+    """Return the text of partition as point [12] tells it."""
+    text = ""
+    for part in partition:
+        text += f"+{part:d}"
+    return text[1:] or "0"
 
 
 def compositions(number):
@@ -76,6 +95,10 @@ EVERY_DIFFERENT = [partition for number in NUMBERS for partition in DIFFERENT[nu
 EVERY_ODD = [partition for number in NUMBERS for partition in ODD[number]]
 EVERY_NOT_DIFFERENT = [partition for partition in EVERY if partition not in set(EVERY_DIFFERENT)]
 EVERY_NOT_ODD = [partition for partition in EVERY if partition not in set(EVERY_ODD)]
+
+
+EVERY_OWN_MIRROR = [partition for partition in EVERY if turned(partition) == partition]
+EVERY_NOT_OWN_MIRROR = [partition for partition in EVERY if turned(partition) != partition]
 
 
 def lone_ones():

@@ -15,6 +15,21 @@ FUNCTIONS = {
         "is_odd": ["partition"], "is_different": ["partition"], "to_different": ["partition"], "to_odd": ["partition"],
     },
     "cancelling": {"partner": ["partition"], "alone": ["number"], "surplus": ["number"]},
+    "squares": {
+        "is_own_mirror": ["partition"], "hooks": ["partition"], "from_hooks": ["partition"], "side": ["partition"],
+        "split": ["partition"], "joined": ["value"],
+    },
+    "apart": {
+        "keeps_apart": ["partition"], "count_apart": ["number", "least"], "rank": ["partition"],
+        "rank_counts": ["number", "divisor"],
+    },
+    "formatting": {"format_partition": ["partition"], "parse_partition": ["text"]},
+}
+
+METHODS = {
+    "__init__": ["self", "partition"], "put": ["self", "part"], "take": ["self", "part"], "mirror": ["self"],
+    "partition": ["self"], "path": ["self"], "undo": ["self"], "duplicate": ["self"],
+    "__len__": ["self"], "__str__": ["self"], "__eq__": ["self", "other"],
 }
 
 ERRORS = [
@@ -63,6 +78,14 @@ class InterfaceTest(unittest.TestCase):
             for name, arguments in functions.items():
                 with self.subTest(file=file, name=name):
                     self.assertEqual([given.arg for given in defined[name].args.args], arguments)
+
+    def test_each_method_is_defined_in_the_class_itself_with_its_arguments(self):
+        [changer] = [part for part in tree(FOLDER / "changer.py").body if isinstance(part, ast.ClassDef)]
+        self.assertEqual(changer.name, "Changer")
+        defined = {part.name: part for part in changer.body if isinstance(part, ast.FunctionDef)}
+        for name, arguments in METHODS.items():
+            with self.subTest(name=name):
+                self.assertEqual([given.arg for given in defined[name].args.args], arguments)
 
     def test_each_error_is_defined_in_errors(self):
         defined = [part.name for part in tree(FOLDER / "errors.py").body if isinstance(part, ast.ClassDef)]
